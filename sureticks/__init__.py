@@ -1,0 +1,1 @@
+"""Sureticks: what a profile surely says of all runs, with papers."""
