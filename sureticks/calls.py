@@ -29,6 +29,11 @@ def is_function(functions, value):
     return is_integer_in(value, 0, functions - 1)
 
 
+def is_edge(calls, value):
+    """Tell whether value, which may be any, is an edge of calls."""
+    return _is_upward_pair(calls.functions, value) and value in calls.edges
+
+
 def _is_upward_pair(functions, value):
     """Tell whether value is a pair of functions of which the first is less."""
     return (
