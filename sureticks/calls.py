@@ -1,7 +1,7 @@
 """Functions, and which of them may call which."""
 
 from sureticks.errors import InvalidEdges, InvalidNumber
-from sureticks.kinds import is_ascending, is_integer_in, is_pair
+from sureticks.kinds import are_upward_pairs, is_integer_in, is_upward_pair
 
 MOST_FUNCTIONS = 5
 
@@ -12,7 +12,7 @@ class Calls:
     def __init__(self, functions, edges):
         if not is_integer_in(functions, 1, MOST_FUNCTIONS):
             raise InvalidNumber(functions)
-        if not _are_edges(functions, edges):
+        if not are_upward_pairs(functions, edges):
             raise InvalidEdges(edges)
         # Built anew, so that what is kept is plain even where a class of its own was passed.
         self.functions = int(functions)
@@ -31,23 +31,4 @@ def is_function(functions, value):
 
 def is_edge(calls, value):
     """Tell whether value, which may be any, is an edge of calls."""
-    return _is_upward_pair(calls.functions, value) and value in calls.edges
-
-
-def _is_upward_pair(functions, value):
-    """Tell whether value is a pair of functions of which the first is less."""
-    return (
-        is_pair(value)
-        and is_function(functions, value[0])
-        and is_function(functions, value[1])
-        and value[0] < value[1]
-    )
-
-
-def _are_edges(functions, value):
-    """Tell whether value may be the edges of so many functions."""
-    return (
-        isinstance(value, tuple)
-        and all([_is_upward_pair(functions, edge) for edge in value])
-        and is_ascending(value)
-    )
+    return is_upward_pair(calls.functions, value) and value in calls.edges

@@ -3,8 +3,10 @@
 import itertools
 
 from sureticks.calls import Calls
+from sureticks.desk import Desk
 from sureticks.profiles import Profile
 from sureticks.runs import is_run
+from sureticks.waiting import Work
 from tests.samples import nested, odd_values, own_of_tree, passed_of_tree, whole_of_tree
 
 PAIRS = tuple((g, f) for g in range(5) for f in range(g + 1, 5))
@@ -21,12 +23,15 @@ def all_calls(functions):
     return [calls_with(functions, number) for number in range(2 ** (functions * (functions - 1) // 2))]
 
 
+CALLS = Calls(2, ((0, 1),))
+WORK = Work((1, 2), ((0, 1),))
+DESK = Desk(Profile(CALLS, (1, 2), (3, 2)))
+
+
 def any_values():
     """Values of all kinds, nested up to sixty deep."""
-    return odd_values() + [(), nested(59), nested(58, CALLS), (nested(58), nested(58))]
-
-
-CALLS = Calls(2, ((0, 1),))
+    objects = [WORK, DESK, (WORK,), (0, DESK), [DESK, WORK], nested(58, CALLS), nested(58, DESK)]
+    return odd_values() + [(), nested(59), (nested(58), nested(58))] + objects
 
 
 def anew(profile):
